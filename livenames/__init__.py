@@ -1,0 +1,1 @@
+"""Livenames: the names of a term's binders."""

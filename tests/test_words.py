@@ -1,0 +1,50 @@
+"""Tests of livenames.words."""
+
+import unittest
+
+from livenames.words import is_name, is_number
+from tests.values import NAMES, NO_NAMES, NO_TEXTS
+
+
+class TestIsName(unittest.TestCase):
+
+    def test_names(self):
+        for value in NAMES:
+            self.assertIs(is_name(value), True, value)
+
+    def test_each_single_sign(self):
+        for code in range(ord(" "), ord("~") + 1):
+            sign = chr(code)
+            self.assertIs(is_name(sign), "a" <= sign <= "z", sign)
+            self.assertIs(is_name("a" + sign), "a" <= sign <= "z", sign)
+
+    def test_one_to_eight_letters(self):
+        for many in range(12):
+            self.assertIs(is_name("q" * many), 1 <= many <= 8, many)
+
+    def test_no_names(self):
+        for value in NO_NAMES + NO_TEXTS:
+            self.assertIs(is_name(value), False, value)
+
+    def test_letters_beyond_z(self):
+        for value in ["\u00e4", "a\u00df", "\u03b1"]:
+            self.assertIs(is_name(value), False, value)
+
+    def test_argument_by_name(self):
+        self.assertIs(is_name(value="x"), True)
+        self.assertIs(is_name(value=None), False)
+
+
+class TestIsNumber(unittest.TestCase):
+
+    def test_numbers(self):
+        for value in [0, 1, -1, 7, 10 ** 59]:
+            self.assertIs(is_number(value), True, value)
+
+    def test_no_numbers(self):
+        for value in [True, False, None, 1.0, "1", "", [1], (1,), {1: 1}, object()]:
+            self.assertIs(is_number(value), False, value)
+
+
+if __name__ == "__main__":
+    unittest.main()
