@@ -1,7 +1,7 @@
 """Trees of binders and uses, and the terms that are made of them."""
 
 from livenames.errors import NoNames, NoNode, NoTerm, TooMany
-from livenames.words import is_name, is_number
+from livenames.words import is_name, is_number_below
 
 MOST_NODES = 400
 MOST_BINDERS = 60
@@ -122,7 +122,7 @@ class Term:
         return len(self._nodes)
 
     def __getitem__(self, at):
-        if not is_number(at) or at < 0 or at >= len(self._nodes):
+        if not is_number_below(at, len(self._nodes)):
             raise NoNode(at)
         return self._nodes[at]
 
@@ -165,3 +165,9 @@ class Term:
     def of_bind(name, body, *ahead):
         """The Term of a binder, its body and its ahead ones trees or Terms."""
         return Term(("bind", name, trees_of(ahead), tree_of(body)))
+
+
+def need_term(value):
+    """Raises NoTerm for any value that is no Term."""
+    if not isinstance(value, Term):
+        raise NoTerm(value)

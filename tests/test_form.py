@@ -1,6 +1,7 @@
 """Tests of the form of the package: what stands in which file, and the sizes of its code."""
 
 import ast
+import builtins
 import unittest
 from pathlib import Path
 
@@ -9,6 +10,9 @@ PACKAGE = Path(__file__).resolve().parent.parent / "livenames"
 FUNCTIONS = {
     "words.py": ["is_name"],
     "terms.py": ["is_tree", "in_order"],
+    "walks.py": ["names_of", "free_names", "binders_around", "meaning", "uses_of", "shape_of", "alike"],
+    "writing.py": ["are_names", "written", "is_right", "catches"],
+    "clashing.py": ["live_at", "clashes", "do_clash", "hurt"],
 }
 
 METHODS = {
@@ -32,6 +36,17 @@ METHODS = {
     ("errors.py", "NoNote"): ["__init__"],
     ("errors.py", "TooMany"): ["__init__"],
 }
+
+BUILTINS = [
+    "len", "range", "enumerate", "zip", "min", "max", "sum", "abs", "sorted", "reversed", "int", "str", "bool",
+    "list", "tuple", "dict", "set", "isinstance", "ord", "repr", "any", "all", "divmod", "ValueError", "OverflowError",
+    "staticmethod", "iter",
+]
+
+BARRED = (
+    ast.Global, ast.AsyncFunctionDef, ast.Await, ast.Div, ast.Try, ast.AnnAssign, ast.NamedExpr, ast.MatMult,
+    ast.GeneratorExp,
+)
 
 
 def files():
@@ -80,6 +95,53 @@ class TestForm(unittest.TestCase):
                 if isinstance(part, ast.ImportFrom):
                     self.assertEqual(part.level, 0, path)
                     self.assertTrue(part.module.startswith("livenames."), (path, part.module))
+
+    def test_no_file_imports_from_one_that_imports_from_it(self):
+        imported = {
+            path.stem: [part.module.split(".")[1] for part in body_of(path.name) if isinstance(part, ast.ImportFrom)]
+            for path in files()
+        }
+        while imported:
+            free = [file for file, needed in imported.items() if not set(needed) & set(imported)]
+            self.assertTrue(free, imported)
+            for file in free:
+                del imported[file]
+
+    def test_imported_names_are_defined_in_the_file_named(self):
+        for path in files():
+            for part in body_of(path.name):
+                if isinstance(part, ast.ImportFrom):
+                    told = defined(body_of(part.module.split(".")[1] + ".py"), (ast.FunctionDef, ast.ClassDef))
+                    self.assertLessEqual({name.name for name in part.names}, set(told), (path, part.module))
+
+    def test_names_are_bound_once_and_mean_one_thing(self):
+        for path in files():
+            body = body_of(path.name)
+            imports = [name.name for part in body if isinstance(part, ast.ImportFrom) for name in part.names]
+            classes = list(defined(body, ast.ClassDef))
+            functions = list(defined(body, ast.FunctionDef))
+            values = [part.targets[0].id for part in body if isinstance(part, ast.Assign)]
+            at_top = imports + classes + functions + values
+            self.assertEqual(len(at_top), len(set(at_top)), path)
+            taken = set(imports + classes + functions) | set(dir(builtins))
+            for part in ast.walk(ast.parse(path.read_text())):
+                if isinstance(part, ast.arg):
+                    self.assertNotIn(part.arg, taken, (path, part.lineno))
+                if isinstance(part, ast.Name) and isinstance(part.ctx, ast.Store):
+                    self.assertNotIn(part.id, taken, (path, part.lineno))
+
+    def test_the_words_of_the_language(self):
+        for path in files():
+            for part in ast.walk(ast.parse(path.read_text())):
+                self.assertNotIsInstance(part, BARRED, path)
+                if isinstance(part, ast.Name) and part.id in dir(builtins):
+                    self.assertIn(part.id, BUILTINS, (path, part.lineno))
+                if isinstance(part, ast.Constant):
+                    self.assertNotIsInstance(part.value, (float, complex), (path, part.lineno))
+                if isinstance(part, ast.Compare) and isinstance(part.ops[0], (ast.Is, ast.IsNot)):
+                    self.assertIn(ast.unparse(part.comparators[0]), ["None", "True", "False"], (path, part.lineno))
+                if isinstance(part, ast.FunctionDef):
+                    self.assertLessEqual({told.id for told in part.decorator_list}, {"staticmethod"}, path)
 
 
 if __name__ == "__main__":

@@ -6,39 +6,8 @@ from unittest import mock
 
 from livenames.errors import NoNames, NoNode, NoTerm, TooMany
 from livenames.terms import Term, in_order, is_tree
+from tests.trees import EMPTY, PLAIN, RICH, RICH_NODES, X, Y, all_trees, bound, deep, joined, met, most_on_a_way
 from tests.values import NAMES, NO_NAMES, NO_TEXTS
-
-X = ("use", "x")
-Y = ("use", "y")
-EMPTY = ("join", "f", ())
-PLAIN = ("bind", "x", (), X)
-
-# Joins with and without parts, binders with none, one and several ahead ones, and uses in all of these.
-RICH = ("join", "top", (
-    ("bind", "x", (), ("join", "f", (X, ("use", "free")))),
-    ("join", "none", ()),
-    ("bind", "y", (Y,), ("bind", "x", (("join", "g", (X, Y)), ("bind", "z", (), ("use", "z")), EMPTY), Y)),
-    ("use", "last"),
-))
-RICH_NODES = [
-    RICH,
-    ("bind", "x", (), ("join", "f", (X, ("use", "free")))),
-    ("join", "f", (X, ("use", "free"))),
-    X,
-    ("use", "free"),
-    ("join", "none", ()),
-    ("bind", "y", (Y,), ("bind", "x", (("join", "g", (X, Y)), ("bind", "z", (), ("use", "z")), EMPTY), Y)),
-    Y,
-    ("bind", "x", (("join", "g", (X, Y)), ("bind", "z", (), ("use", "z")), EMPTY), Y),
-    ("join", "g", (X, Y)),
-    X,
-    Y,
-    ("bind", "z", (), ("use", "z")),
-    ("use", "z"),
-    EMPTY,
-    Y,
-    ("use", "last"),
-]
 
 # Each one is no tree because of its root.
 NO_ROOTS = NO_TEXTS[:-1] + [
@@ -86,60 +55,6 @@ def around(bad):
 def no_trees():
     roots = NO_ROOTS + list(with_bad_names())
     return roots + [tree for bad in roots for tree in around(bad)]
-
-
-def rows_of_trees(size, room):
-    """All tuples of up to room trees that have so many nodes together."""
-    if size == 0:
-        return [()]
-    if room == 0:
-        return []
-    return [
-        (first, *rest)
-        for many in range(1, size + 1)
-        for first in all_trees(many)
-        for rest in rows_of_trees(size - many, room - 1)
-    ]
-
-
-def all_trees(size):
-    """All trees of just so many nodes, of up to three parts or ahead ones a node."""
-    found = [("use", "x"), ("use", "y")] if size == 1 else []
-    found += [("join", "f", parts) for parts in rows_of_trees(size - 1, 3)]
-    for many in range(1, size):
-        for body in all_trees(many):
-            found += [("bind", "x", ahead, body) for ahead in rows_of_trees(size - 1 - many, 3)]
-    return found
-
-
-def met(tree):
-    """The nodes below a tree and itself, as the document numbers them."""
-    below = {"use": (), "join": tree[-1], "bind": (*tree[-2], tree[-1])}[tree[0]]
-    return [tree] + [node for part in below for node in met(part)]
-
-
-def most_on_a_way(tree):
-    below = {"use": (), "join": tree[-1], "bind": (*tree[-2], tree[-1])}[tree[0]]
-    return 1 + max([most_on_a_way(part) for part in below], default=0)
-
-
-def joined(many):
-    """A join of so many nodes altogether."""
-    return ("join", "f", (X,) * (many - 1))
-
-
-def bound(many, body=X):
-    for _ in range(many):
-        body = ("bind", "x", (), body)
-    return body
-
-
-def deep(many):
-    """A tree with so many nodes on its one way, by joins."""
-    tree = X
-    for _ in range(many - 1):
-        tree = ("join", "f", (tree,))
-    return tree
 
 
 class TestIsTree(unittest.TestCase):

@@ -2,7 +2,7 @@
 
 import unittest
 
-from livenames.words import is_name, is_number
+from livenames.words import is_name, is_number, is_number_below
 from tests.values import NAMES, NO_NAMES, NO_TEXTS
 
 
@@ -44,6 +44,11 @@ class TestIsNumber(unittest.TestCase):
     def test_no_numbers(self):
         for value in [True, False, None, 1.0, "1", "", [1], (1,), {1: 1}, object()]:
             self.assertIs(is_number(value), False, value)
+            self.assertIs(is_number_below(value, 5), False, value)
+
+    def test_numbers_below(self):
+        for most in range(4):
+            self.assertEqual([value for value in range(-5, 8) if is_number_below(value, most)], list(range(most)))
 
 
 if __name__ == "__main__":
