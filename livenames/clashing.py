@@ -45,3 +45,9 @@ def in_live_order(live):
     """The list of some binders and free names: binders by their numbers, then names in order."""
     binders = sorted([one for one in live if is_number(one)])
     return binders + in_order([one for one in live if is_name(one)])
+
+
+def names_left(pool, live, names):
+    """The list of the names of a pool, in its order, that nothing live at a binder has by a naming."""
+    taken = [name_by(names, one) for one in live]
+    return [name for name in pool if name not in taken]

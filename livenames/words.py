@@ -1,6 +1,7 @@
 """Which values are names, and which are numbers."""
 
 LONGEST_NAME = 8
+LETTERS = "abcdefghijklmnopqrstuvwxyz"
 
 
 def is_name(value):
@@ -18,3 +19,21 @@ def is_number(value):
 def is_number_below(value, most):
     """Whether any value is a number from 0 to one less than the most."""
     return is_number(value) and 0 <= value < most
+
+
+def first_names(many, barred):
+    """The list of so many first names, in order, that are not among the barred ones."""
+    # Each barred name takes away one name at most.
+    names = [name_with(number) for number in range(many + len(barred))]
+    return [name for name in names if name not in barred][:many]
+
+
+def name_with(number):
+    """The name with a number, from 0 on, of all names in order."""
+    name = ""
+    left = number + 1
+    while left > 0:
+        # There is no letter for nought: z is followed by aa.
+        left, place = divmod(left - 1, len(LETTERS))
+        name = LETTERS[place] + name
+    return name

@@ -43,6 +43,12 @@ def need_names(term, value):
         raise NoNames(value)
 
 
+def need_right(term, value):
+    """Raises NoNames for any value that is no right naming of a term."""
+    if not is_right(term, value):
+        raise NoNames(value)
+
+
 def name_by(names, meant):
     """The name that a binder has by a naming; a free name stays."""
     if is_number(meant):

@@ -16,7 +16,8 @@ class Walk:
         self.free = sorted({meant for meant in self.meant if isinstance(meant, str)}, key=lambda x: (len(x), x))
         # The binders within each binder are those whose own nodes are within it.
         self.outside = [around for around, is_binder in self.around if is_binder]
-        self.clashing = [(one, other) for other in self.binders for one in self.live_at(other)]
+        self.lives = [self.find_live(binder) for binder in self.binders]
+        self.clashing = [(one, other) for other in self.binders for one in self.lives[other]]
 
     def go(self, tree, around):
         self.around.append((list(around), tree[0] == "bind"))
@@ -35,13 +36,16 @@ class Walk:
     def meaning_of(self, name, around):
         return max([binder for binder in around if self.names[binder] == name], default=name)
 
-    def live_at(self, binder):
+    def find_live(self, binder):
         meant = {self.meant[use] for use, (_, around) in enumerate(self.uses) if binder in around}
         binders = sorted(one for one in meant if isinstance(one, int) and one in self.outside[binder])
         return binders + [name for name in self.free if name in meant]
 
     def name_by(self, naming, one):
         return naming[one] if isinstance(one, int) else one
+
+    def live_at(self, binder):
+        return list(self.lives[binder])
 
     def hurt(self, naming):
         return [(one, other) for one, other in self.clashing if self.name_by(naming, one) == naming[other]]

@@ -2,7 +2,7 @@
 
 import unittest
 
-from livenames.words import is_name, is_number, is_number_below
+from livenames.words import first_names, is_name, is_number, is_number_below, name_with
 from tests.values import NAMES, NO_NAMES, NO_TEXTS
 
 
@@ -49,6 +49,22 @@ class TestIsNumber(unittest.TestCase):
     def test_numbers_below(self):
         for most in range(4):
             self.assertEqual([value for value in range(-5, 8) if is_number_below(value, most)], list(range(most)))
+
+
+class TestFirstNames(unittest.TestCase):
+
+    def test_all_names_in_order(self):
+        names = [name_with(number) for number in range(26 + 26 ** 2 + 26 ** 3 + 2)]
+        self.assertEqual(names, sorted(set(names), key=lambda name: (len(name), name)))
+        self.assertEqual((names[0], names[25], names[26], names[701], names[702]), ("a", "z", "aa", "zz", "aaa"))
+        self.assertEqual(names[-2:], ["aaaa", "aaab"])
+
+    def test_first_names(self):
+        self.assertEqual(first_names(3, []), ["a", "b", "c"])
+        self.assertEqual(first_names(3, ["b", "q", "b", "aa"]), ["a", "c", "d"])
+        self.assertEqual(first_names(3, ["a", "b", "c"]), ["d", "e", "f"])
+        self.assertEqual(first_names(2, list("abcdefghijklmnopqrstuvwxy")), ["z", "aa"])
+        self.assertEqual(first_names(0, ["a"]), [])
 
 
 if __name__ == "__main__":
