@@ -37,20 +37,15 @@ def kept_weight(term, wishes, weights, names):
 
 def told_kept(term, wishes, weights):
     """The tuple of a right naming that keeps the most weight."""
-    kept = told_binders(term, wishes, weights)
-    wished = [wish for wish in wishes if wish is not None]
-    others = first_names(len(wishes), [*free_names(term), *wished, *names_of(term)])[::-1]
-    naming = []
-    for binder, wish in enumerate(wishes):
-        if binder in kept:
-            naming.append(wish)
-        else:
-            naming.append(others.pop())
-    return tuple(naming)
+    need_wishes(term, wishes)
+    need_weights(term, weights)
+    return naming_that_keeps(term, wishes, weights, names_of(term))
 
 
 def most_kept(term, wishes, weights):
     """The most weight that a right naming keeps."""
+    need_wishes(term, wishes)
+    need_weights(term, weights)
     return sum([weights[binder] for binder in told_binders(term, wishes, weights)])
 
 
@@ -86,10 +81,22 @@ def binders_with_wishes(wishes, names):
     return [binder for binder, name in enumerate(names) if wishes[binder] == name]
 
 
+def naming_that_keeps(term, wishes, weights, names):
+    """The told naming of a term whose binders are taken by these names."""
+    kept = told_binders(term, wishes, weights)
+    wished = [wish for wish in wishes if wish is not None]
+    others = first_names(len(wishes), [*free_names(term), *wished, *names])[::-1]
+    naming = []
+    for binder, wish in enumerate(wishes):
+        if binder in kept:
+            naming.append(wish)
+        else:
+            naming.append(others.pop())
+    return tuple(naming)
+
+
 def told_binders(term, wishes, weights):
     """The list of the binders that the told naming keeps, ascending."""
-    need_wishes(term, wishes)
-    need_weights(term, weights)
     lives = lives_of(term)
     allowed = wishes_allowed(lives, wishes)
     return binders_for(lives, allowed, prices_for(lives, allowed, weights))

@@ -46,7 +46,8 @@ def trees_below(node):
         return ()
     if node[0] == "join":
         return node[2]
-    return (*node[2], node[3])
+    # From its end, so that it may also be a binder without a name, of a numbered form.
+    return (*node[-2], node[-1])
 
 
 def row_below(row):

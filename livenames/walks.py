@@ -1,6 +1,7 @@
 """What the uses of a term mean, and which binders are around its nodes."""
 
 from livenames.errors import NoBinder, NoNode
+from livenames.making import with_names
 from livenames.terms import in_order, need_term, trees_below
 from livenames.words import is_name, is_number, is_number_below
 
@@ -21,7 +22,7 @@ def binders_around(term, index):
     need_term(term)
     if not is_number_below(index, len(term)):
         raise NoNode(index)
-    _, around = nodes_met(term)[index]
+    _, around = nodes_met(term.tree())[index]
     return list(around)
 
 
@@ -40,7 +41,7 @@ def uses_of(term, binder):
 def shape_of(term):
     """The tree of a term with None in the place of all names of binders and uses."""
     need_term(term)
-    return with_names(term, [None] * len(term.binders()), [None] * len(term.uses()))
+    return with_names(term.listed(), [None] * len(term.binders()), [None] * len(term.uses()))
 
 
 def alike(one, other):
@@ -62,18 +63,18 @@ def need_binder(term, value):
         raise NoBinder(value)
 
 
-def nodes_met(term):
-    """For each node, in order, the pair of its tree and the tuple of the binders that it is within."""
+def nodes_met(tree):
+    """For each node of a tree or a numbered form, in order, the pair of it and the tuple of the binders around it."""
     met = []
     binders = 0
-    waiting = [(term.tree(), ())]
+    waiting = [(tree, ())]
     while waiting:
         node, around = waiting.pop()
         met.append((node, around))
         below = [(tree, around) for tree in trees_below(node)]
         if node[0] == "bind":
             # The body comes last, and it alone is within the binder.
-            below[-1] = (node[3], (*around, binders))
+            below[-1] = (node[-1], (*around, binders))
             binders += 1
         # The leftmost one goes on top, as it is met next.
         waiting.extend(below[::-1])
@@ -83,7 +84,7 @@ def nodes_met(term):
 def uses_met(term):
     """For each use, in order, the pair of the tuple of the binders that it is within and of what it means."""
     names = names_of(term)
-    return [(around, meant_by(node[1], around, names)) for node, around in nodes_met(term) if node[0] == "use"]
+    return [(around, meant_by(node[1], around, names)) for node, around in nodes_met(term.tree()) if node[0] == "use"]
 
 
 def meant_by(name, around, names):
@@ -98,20 +99,3 @@ def binders_between(around, meant):
     """The list of the binders around a use that are within what it means; all of them, if it is free."""
     # Binders around one node are within one another by rising numbers.
     return [binder for binder in around if not is_number(meant) or binder > meant]
-
-
-def with_names(term, names, used):
-    """The tree of a term with other names at its binders and at its uses, for each one in order."""
-    names_left = list(names)
-    used_left = list(used)
-    made = []
-    # From the last node to the first one, so that what is below a node is made ahead of it.
-    for node in term.listed()[::-1]:
-        below = [made.pop() for _ in trees_below(node)]
-        if node[0] == "use":
-            made.append(("use", used_left.pop()))
-        elif node[0] == "join":
-            made.append(("join", node[1], tuple(below)))
-        else:
-            made.append(("bind", names_left.pop(), tuple(below[:-1]), below[-1]))
-    return made[0]

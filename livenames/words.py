@@ -23,9 +23,10 @@ def is_number_below(value, most):
 
 def first_names(many, barred):
     """The list of so many first names, in order, that are not among the barred ones."""
+    taken = {name: True for name in barred}
     # Each barred name takes away one name at most.
-    names = [name_with(number) for number in range(many + len(barred))]
-    return [name for name in names if name not in barred][:many]
+    names = [name_with(number) for number in range(many + len(taken))]
+    return [name for name in names if name not in taken][:many]
 
 
 def name_with(number):

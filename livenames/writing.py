@@ -1,8 +1,9 @@
 """Terms written by other names of their binders, and what these names catch."""
 
 from livenames.errors import NoNames
+from livenames.making import with_names
 from livenames.terms import Term, need_term
-from livenames.walks import alike, binders_between, meaning, uses_met, with_names
+from livenames.walks import alike, binders_between, meaning, uses_met
 from livenames.words import is_name, is_number
 
 
@@ -18,7 +19,7 @@ def written(term, names):
     """The Term with other names at its binders, and at the uses that mean them."""
     need_names(term, names)
     used = [name_by(names, meant) for meant in meaning(term)]
-    return Term(with_names(term, names, used))
+    return Term(with_names(term.listed(), names, used))
 
 
 def is_right(term, names):

@@ -17,6 +17,9 @@ FUNCTIONS = {
     "counting.py": ["is_pool", "how_many", "all_namings", "naming_at", "number_of"],
     "keeping.py": ["are_wishes", "are_weights", "kept_by", "kept_weight", "told_kept", "most_kept", "shared"],
     "prices.py": ["told_prices", "are_prices", "kept_paper", "accepts_kept"],
+    "numbered.py": ["numbered", "is_form", "from_form"],
+    "putting.py": ["are_links", "put", "put_renamed", "put_catches"],
+    "inlining.py": ["can_inline", "inline", "inline_renamed", "inline_catches"],
 }
 
 METHODS = {
