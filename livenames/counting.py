@@ -62,9 +62,7 @@ def naming_at(term, pool, number):
 def number_of(term, pool, names):
     """The number, from 0 on, of a right naming from a pool."""
     need_pool(term, pool)
-    need_right(term, names)
-    if not all([name in pool for name in names]):
-        raise NoNames(names)
+    need_right_from(term, pool, names)
     number = 0
     for name, live, room in zip(names, lives_of(term), rooms_in(term, pool)):
         number = number * room + names_left(pool, live, names).index(name)
@@ -76,6 +74,13 @@ def need_pool(term, value):
     need_term(term)
     if not is_pool(value):
         raise NoPool(value)
+
+
+def need_right_from(term, pool, value):
+    """Raises NoNames for any value that is no right naming of a term from a pool."""
+    need_right(term, value)
+    if not all([name in pool for name in value]):
+        raise NoNames(value)
 
 
 def rooms_in(term, pool):

@@ -20,6 +20,8 @@ FUNCTIONS = {
     "numbered.py": ["numbered", "is_form", "from_form"],
     "putting.py": ["are_links", "put", "put_renamed", "put_catches"],
     "inlining.py": ["can_inline", "inline", "inline_renamed", "inline_catches"],
+    "leading.py": ["is_enough", "is_way", "lead"],
+    "notes.py": ["write_term", "read_term", "write_form"],
 }
 
 METHODS = {
@@ -27,6 +29,12 @@ METHODS = {
         "__init__", "tree", "__len__", "__getitem__", "__contains__", "__iter__", "listed", "binders", "uses",
         "depth", "__eq__", "of_use", "of_join", "of_bind",
     ],
+    ("live.py", "Live"): [
+        "__init__", "kept", "named", "rename", "tune", "put", "inline", "wrap", "unwrap", "undo", "__len__", "twin",
+        "trial", "trying",
+    ],
+    ("live.py", "Trial"): ["__enter__", "__exit__", "keep"],
+    ("console.py", "Console"): ["__init__", "run"],
     ("errors.py", "BinderError"): [],
     ("errors.py", "NoTerm"): ["__init__"],
     ("errors.py", "NoNode"): ["__init__"],
@@ -49,6 +57,9 @@ BUILTINS = [
     "list", "tuple", "dict", "set", "isinstance", "ord", "repr", "any", "all", "divmod", "ValueError", "OverflowError",
     "staticmethod", "iter",
 ]
+
+# A run of examples leaves a builtin `_` behind.
+TAKEN = set(dir(builtins)) - {"_"}
 
 BARRED = (ast.Global, ast.AsyncFunctionDef, ast.Await, ast.Div, ast.MatMult)
 # These take no generator expression, since a class of the package has an __eq__.
@@ -129,7 +140,7 @@ class TestForm(unittest.TestCase):
             values = [part.targets[0].id for part in body if isinstance(part, ast.Assign)]
             at_top = imports + classes + functions + values
             self.assertEqual(len(at_top), len(set(at_top)), path)
-            taken = set(imports + classes + functions) | set(dir(builtins))
+            taken = set(imports + classes + functions) | TAKEN
             for part in ast.walk(ast.parse(path.read_text())):
                 if isinstance(part, ast.arg):
                     self.assertNotIn(part.arg, taken, (path, part.lineno))
@@ -140,7 +151,7 @@ class TestForm(unittest.TestCase):
         for path in files():
             for part in ast.walk(ast.parse(path.read_text())):
                 self.assertNotIsInstance(part, BARRED, path)
-                if isinstance(part, ast.Name) and part.id in dir(builtins):
+                if isinstance(part, ast.Name) and part.id in TAKEN:
                     self.assertIn(part.id, BUILTINS, (path, part.lineno))
                 if isinstance(part, ast.Call) and ast.unparse(part.func) in TAKE_LISTS:
                     for argument in part.args:
