@@ -1,9 +1,9 @@
 """How many right namings there are from a pool of names, and the number of each."""
 
-from livenames.clashing import lives_of, names_left
 from livenames.errors import NoNames, NoNumber, NoPool
+from livenames.places import live_parts
 from livenames.terms import need_term
-from livenames.words import is_name, is_number, is_number_below
+from livenames.words import are_all_names, is_number_below
 from livenames.writing import need_right
 
 MOST_IN_A_POOL = 60
@@ -13,14 +13,14 @@ def is_pool(value):
     """Whether any value is a list or tuple of up to sixty unlike names."""
     if not isinstance(value, (list, tuple)) or len(value) > MOST_IN_A_POOL:
         return False
-    return all([is_name(name) for name in value]) and len(set(value)) == len(value)
+    return are_all_names(value) and len(set(value)) == len(value)
 
 
 def how_many(term, pool):
     """How many right namings from a pool there are."""
     need_pool(term, pool)
     many = 1
-    for room in rooms_in(term, pool):
+    for room in rooms_in(pool, places_taken(term, pool)):
         many *= room
     return many
 
@@ -28,44 +28,52 @@ def how_many(term, pool):
 def all_namings(term, pool):
     """A generator of all right namings from a pool, in order."""
     need_pool(term, pool)
-    names = list(pool)
-    lives = lives_of(term)
+    lives = [(binders, [name for name in pool if name not in free]) for binders, free in live_parts(term)]
     waiting = [()]
-    if 0 in rooms_in(term, names):
-        # Otherwise great terms would go through all beginnings, which end far down.
+    if len(lives) == 0:
+        yield ()
+    if len(lives) == 0 or 0 in rooms_in(pool, places_taken(term, pool)):
+        # Otherwise great terms would go through all beginnings of namings, which end far down.
         waiting.clear()
     while waiting:
         begun = waiting.pop()
-        if len(begun) == len(lives):
-            yield begun
+        binders, names = lives[len(begun)]
+        taken = [begun[binder] for binder in binders]
+        if len(begun) + 1 == len(lives):
+            for name in names:
+                if name not in taken:
+                    yield begun + (name,)
         else:
-            left = names_left(names, lives[len(begun)], begun)
             # The first name goes on top, as it is taken next.
-            waiting.extend([(*begun, name) for name in left[::-1]])
+            waiting.extend([begun + (name,) for name in names[::-1] if name not in taken])
 
 
 def naming_at(term, pool, number):
     """The right naming from a pool that has a number, from 0 on."""
     if not is_number_below(number, how_many(term, pool)):
         raise NoNumber(number)
-    places = []
+    taken = places_taken(term, pool)
     left = number
-    for room in rooms_in(term, pool)[::-1]:
-        left, place = divmod(left, room)
-        places.append(place)
-    naming = []
-    for live, place in zip(lives_of(term), places[::-1]):
-        naming.append(names_left(pool, live, naming)[place])
-    return tuple(naming)
+    numbers = []
+    for room in rooms_in(pool, taken)[::-1]:
+        left, among = divmod(left, room)
+        numbers.append(among)
+    places = []
+    for (binders, free), among in zip(taken, numbers[::-1]):
+        places.append(place_among_left(among, free + [places[binder] for binder in binders]))
+    return tuple([pool[place] for place in places])
 
 
 def number_of(term, pool, names):
     """The number, from 0 on, of a right naming from a pool."""
     need_pool(term, pool)
     need_right_from(term, pool, names)
+    taken = places_taken(term, pool)
+    places = [pool.index(name) for name in names]
     number = 0
-    for name, live, room in zip(names, lives_of(term), rooms_in(term, pool)):
-        number = number * room + names_left(pool, live, names).index(name)
+    for place, (binders, free), room in zip(places, taken, rooms_in(pool, taken)):
+        others = free + [places[binder] for binder in binders]
+        number = number * room + place - len([other for other in others if other < place])
     return number
 
 
@@ -83,11 +91,22 @@ def need_right_from(term, pool, value):
         raise NoNames(value)
 
 
-def rooms_in(term, pool):
+def places_taken(term, pool):
+    """For each binder the pair of the binders live at it and the places in a pool of the free names live at it."""
+    places = {name: place for place, name in enumerate(pool)}
+    return [(binders, [places[name] for name in free if name in places]) for binders, free in live_parts(term)]
+
+
+def rooms_in(pool, taken):
     """For each binder how many names of a pool are left for it, whatever right names are live at it."""
-    rooms = []
-    for live in lives_of(term):
-        # All that are live at one binder clash with one another, so that each takes another name.
-        taken = [one for one in live if is_number(one) or one in pool]
-        rooms.append(max(0, len(pool) - len(taken)))
-    return rooms
+    # All that are live at one binder clash with one another, so that each takes another name.
+    return [max(0, len(pool) - len(binders) - len(free)) for binders, free in taken]
+
+
+def place_among_left(among, taken):
+    """The place in a pool of a name that has a place among those that are not at the taken places."""
+    place = among
+    for other in sorted(taken):
+        if other <= place:
+            place += 1
+    return place

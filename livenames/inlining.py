@@ -1,7 +1,7 @@
 """What comes of it if a binder's ahead term is put in the place of its uses."""
 
 from livenames.errors import NoBinder
-from livenames.making import with_names_by, with_trees
+from livenames.making import with_leaves, with_names_by
 from livenames.outcomes import Outcome
 from livenames.terms import nodes_of
 from livenames.walks import free_names, names_of, need_binder, uses_of
@@ -35,14 +35,29 @@ def outcome_of_inlining(term, binder):
     if not can_inline(term, binder):
         raise NoBinder(binder)
     index = term.binders()[binder]
-    uses = [term.uses()[use] for use in uses_of(term, binder)]
-    old = [*names_of(term), *binder_names(term[index][2][0]) * len(uses)]
+    many = len(uses_of(term, binder))
+    binders = len(names_of(term))
+    old = list(names_of(term)) + binder_names(term[index][2][0]) * many
     own = first_names(len(old), free_names(term))
-    host = written(term, own[:len(term.binders())])
-    copies = copies_of(host[index][2][0], len(uses), own[len(term.binders()):])
-    tree = with_trees(host.tree(), dict(zip(uses, copies)))
-    # All copies are in the body, behind the binder, so that it has its number still.
-    return Outcome(with_trees(tree, {index: nodes_of(tree)[index][3]}), dict(zip(own, old)))
+    host = written(term, own[:binders])
+    copies = copies_of(host[index][2][0], many, own[binders:])
+    return Outcome(inlined_tree(host, index, copies), dict(zip(own, old)))
+
+
+def inlined_tree(host, index, copies):
+    """The tree of a host by own names, with copies for the uses of the binder at a node, and its body for this."""
+    own = host[index][1]
+    ahead = host[index][2]
+    body = index + 1 + sum([len(nodes_of(tree)) for tree in ahead])
+    nodes = host.listed()[:index] + host.listed()[body:]
+    copies_left = copies[::-1]
+    leaves = []
+    for node in nodes:
+        if node == ("use", own):
+            leaves.append(copies_left.pop())
+        elif node[0] == "use":
+            leaves.append(node)
+    return with_leaves(nodes, leaves)
 
 
 def copies_of(tree, many, names):

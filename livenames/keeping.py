@@ -1,10 +1,10 @@
 """Wished names with weights, and the most weight that a right naming keeps."""
 
-from livenames.clashing import lives_of
 from livenames.errors import NoWeights, NoWishes
+from livenames.places import inner_binders, live_parts
 from livenames.terms import need_term
 from livenames.walks import free_names, names_of
-from livenames.words import first_names, is_name, is_number_below
+from livenames.words import are_all_names, first_names, is_number_below
 from livenames.writing import need_right
 
 MOST_WEIGHT = 1000
@@ -12,7 +12,7 @@ MOST_WEIGHT = 1000
 
 def are_wishes(term, value):
     """Whether any value is a list or tuple of a name or None for each binder."""
-    return is_row(term, value) and all([wish is None or is_name(wish) for wish in value])
+    return is_row(term, value) and are_all_names([wish for wish in value if wish is not None])
 
 
 def are_weights(term, value):
@@ -52,16 +52,16 @@ def most_kept(term, wishes, weights):
 def shared(term):
     """A list of binders, as many as can be, ascending, that can all have one name that is not free."""
     need_term(term)
-    lives = lives_of(term)
+    binders = len(names_of(term))
     # Whatever one wish they all have: only free names stand in the way of some wishes.
-    wishes = ["one"] * len(lives)
-    return binders_for(lives, wishes, prices_for(lives, wishes, [1] * len(lives)))
+    wishes = ["one"] * binders
+    return binders_for(term, wishes, prices_for(term, wishes, [1] * binders))
 
 
 def is_row(term, value):
     """Whether any value is a list or tuple of as many items as a term has binders."""
     need_term(term)
-    return isinstance(value, (list, tuple)) and len(value) == len(term.binders())
+    return isinstance(value, (list, tuple)) and len(value) == len(names_of(term))
 
 
 def need_wishes(term, value):
@@ -97,36 +97,34 @@ def naming_that_keeps(term, wishes, weights, names):
 
 def told_binders(term, wishes, weights):
     """The list of the binders that the told naming keeps, ascending."""
-    lives = lives_of(term)
-    allowed = wishes_allowed(lives, wishes)
-    return binders_for(lives, allowed, prices_for(lives, allowed, weights))
+    allowed = wishes_allowed(term, wishes)
+    return binders_for(term, allowed, prices_for(term, allowed, weights))
 
 
-def wishes_allowed(lives, wishes):
+def wishes_allowed(term, wishes):
     """For each binder its wish, or None if this is live at it as a free name."""
-    return [None if wish in live else wish for wish, live in zip(wishes, lives)]
+    return [None if wish in free else wish for wish, (_, free) in zip(wishes, live_parts(term))]
 
 
-def prices_for(lives, wishes, weights):
+def prices_for(term, wishes, weights):
     """For each binder its price: the weight that those within it, of its wish, have not yet paid."""
-    prices = [0] * len(lives)
-    for binder in reversed(range(len(lives))):
+    prices = [0] * len(wishes)
+    for binder in reversed(range(len(wishes))):
         if wishes[binder] is not None:
-            paid = sum([prices[inner] for inner in rivals_within(lives, wishes, binder)])
-            prices[binder] = max(0, weights[binder] - paid)
+            prices[binder] = max(0, weights[binder] - paid_within(term, wishes, prices, binder))
     return prices
 
 
-def rivals_within(lives, wishes, binder):
-    """The list of the other binders of the wish of a binder at which it is live."""
-    return [inner for inner, live in enumerate(lives) if binder in live and wishes[inner] == wishes[binder]]
+def paid_within(term, wishes, prices, binder):
+    """The prices of the others of a binder's wish at which it is live, together."""
+    return sum([prices[inner] for inner in inner_binders(term)[binder] if wishes[inner] == wishes[binder]])
 
 
-def binders_for(lives, wishes, prices):
+def binders_for(term, wishes, prices):
     """The list of the binders that are kept for their prices, ascending."""
-    kept = []
-    for binder, price in enumerate(prices):
-        rivals = [outer for outer in kept if outer in lives[binder] and wishes[outer] == wishes[binder]]
-        if price > 0 and len(rivals) == 0:
-            kept.append(binder)
-    return kept
+    kept = {}
+    for binder, (outer, _) in enumerate(live_parts(term)):
+        rivals = [other for other in outer if other in kept and wishes[other] == wishes[binder]]
+        if prices[binder] > 0 and len(rivals) == 0:
+            kept[binder] = True
+    return list(kept)

@@ -1,11 +1,11 @@
 """Ways from one naming to another one, by single renamings."""
 
-from livenames.clashing import lives_of, names_left
 from livenames.counting import need_pool, need_right_from
 from livenames.errors import NoPool, TooMany
+from livenames.places import live_parts
 from livenames.walks import free_names
 from livenames.words import is_name, is_number_below
-from livenames.writing import is_right
+from livenames.writing import hurts_nothing
 
 MOST_TO_LEAD = 10
 
@@ -15,7 +15,7 @@ def is_enough(term, pool):
     need_pool(term, pool)
     if not all([name in pool for name in free_names(term)]):
         return False
-    return all([len(pool) >= len(live) + 2 for live in lives_of(term)])
+    return all([len(pool) >= len(binders) + len(free) + 2 for binders, free in live_parts(term)])
 
 
 def is_way(term, pool, one, other, steps):
@@ -31,7 +31,7 @@ def is_way(term, pool, one, other, steps):
             return False
         binder, name = step
         naming[binder] = name
-        if not is_right(term, naming):
+        if not hurts_nothing(term, naming):
             return False
     return naming == list(other)
 
@@ -45,7 +45,7 @@ def lead(term, pool, one, other):
     if len(one) > MOST_TO_LEAD:
         raise TooMany(MOST_TO_LEAD)
     steps = []
-    for binder, live in enumerate(lives_of(term)):
+    for binder, live in enumerate(live_parts(term)):
         steps = steps_past(steps, binder, live, pool, one)
         # Behind these steps all that are live at it have their names by the other naming.
         if dict(steps).get(binder, one[binder]) != other[binder]:
@@ -63,10 +63,11 @@ def is_step(pool, naming, value):
 
 def steps_past(steps, binder, live, pool, one):
     """The list of the steps of binders ahead of one, and of steps by which it makes room for them."""
+    binders, _ = live
     naming = list(one)
     longer = []
     for moved, name in steps:
-        if moved in live and name == naming[binder]:
+        if moved in binders and name == naming[binder]:
             # Two names of the pool at least are left for it, of which this is one.
             left = [other for other in names_left(pool, live, naming) if other != name]
             naming[binder] = left[0]
@@ -74,3 +75,10 @@ def steps_past(steps, binder, live, pool, one):
         naming[moved] = name
         longer.append((moved, name))
     return longer
+
+
+def names_left(pool, live, naming):
+    """The list of the names of a pool, in its order, that nothing live has: a pair of binders and free names."""
+    binders, free = live
+    taken = free + [naming[binder] for binder in binders]
+    return [name for name in pool if name not in taken]

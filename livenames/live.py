@@ -3,7 +3,7 @@
 from livenames.errors import NoBinder, NoNames, NoNode, NothingBack
 from livenames.fewest import told_naming
 from livenames.inlining import can_inline, inline
-from livenames.making import with_trees
+from livenames.making import tree_met
 from livenames.putting import put
 from livenames.terms import Term, need_term
 from livenames.walks import free_names, names_of, need_binder, uses_of
@@ -129,7 +129,9 @@ def wrapped(term, index, name):
         raise NoNames(name)
     names = names_of(term)
     others = first_names(1, [*free_names(term), *names])
-    made = Term(with_trees(term.tree(), {index: ("bind", others[0], (), term[index])}))
+    nodes = term.listed()
+    nodes.insert(index, ("bind", others[0], (), term[index]))
+    made = Term(tree_met(nodes))
     binder = made.binders().index(index)
     naming = [*names[:binder], name, *names[binder:]]
     if is_right(made, naming):
@@ -141,5 +143,6 @@ def unwrapped(term, binder):
     """The Term with its body in the place of a binder without uses and without ahead terms."""
     if can_inline(term, binder) or len(uses_of(term, binder)) > 0:
         raise NoBinder(binder)
-    index = term.binders()[binder]
-    return Term(with_trees(term.tree(), {index: term[index][3]}))
+    nodes = term.listed()
+    nodes.pop(term.binders()[binder])
+    return Term(tree_met(nodes))

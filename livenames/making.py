@@ -1,6 +1,6 @@
 """Trees made of other trees: of a term's, or of a numbered form's, whose binders have no name."""
 
-from livenames.terms import nodes_of, trees_below
+from livenames.terms import nodes_of
 
 
 def remade(nodes, heads, leaves):
@@ -8,16 +8,27 @@ def remade(nodes, heads, leaves):
     heads_left = list(heads)
     leaves_left = list(leaves)
     made = []
-    # From the last node to the first one, so that what is below a node is made ahead of it.
+    # From the last node to the first one, so that what is below a node is made ahead of it, the leftmost one last.
     for node in nodes[::-1]:
-        below = [made.pop() for _ in trees_below(node)]
         if node[0] == "use":
             made.append(leaves_left.pop())
         elif node[0] == "join":
-            made.append(("join", node[1], tuple(below)))
+            begin = len(made) - len(node[2])
+            parts = made[begin:]
+            del made[begin:]
+            made.append(("join", node[1], tuple(parts[::-1])))
         else:
-            made.append((*heads_left.pop(), tuple(below[:-1]), below[-1]))
+            begin = len(made) - len(node[-2])
+            body = made[begin - 1]
+            ahead = made[begin:]
+            del made[begin - 1:]
+            made.append(heads_left.pop() + (tuple(ahead[::-1]), body))
     return made[0]
+
+
+def with_leaves(nodes, leaves):
+    """The tree of some nodes, its uses other trees, for each one in order."""
+    return remade(nodes, [node[:2] for node in nodes if node[0] == "bind"], leaves)
 
 
 def with_names(nodes, names, used):
@@ -33,23 +44,6 @@ def with_names_by(tree, table):
     return with_names(nodes, names, used)
 
 
-def with_trees(tree, trees):
-    """A tree with others in the place of some of its nodes, by a dict from the numbers of these."""
-    nodes = nodes_of(tree)
-    made = []
-    for number in reversed(range(len(nodes))):
-        below = [made.pop() for _ in trees_below(nodes[number])]
-        if number in trees:
-            made.append(trees[number])
-        else:
-            made.append(with_below(nodes[number], below))
-    return made[0]
-
-
-def with_below(node, below):
-    """A node with other trees directly below it."""
-    if node[0] == "use":
-        return node
-    if node[0] == "join":
-        return ("join", node[1], tuple(below))
-    return ("bind", node[1], tuple(below[:-1]), below[-1])
+def tree_met(nodes):
+    """The tree whose nodes these are, in the order in which they are met, whatever each one had below it."""
+    return with_leaves(nodes, [node for node in nodes if node[0] == "use"])

@@ -1,15 +1,12 @@
 """Terms written without names of binders, by numbers, and back."""
 
-from livenames.errors import NoForm, TooMany
+from livenames.errors import NoForm
 from livenames.fewest import told_naming
 from livenames.making import remade, with_names
-from livenames.terms import Term, need_term, trees_below
-from livenames.walks import binders_between, nodes_met, uses_met
-from livenames.words import first_names, is_name, is_number, is_number_below
+from livenames.terms import Term, limit_broken, need_term
+from livenames.walks import binders_between, uses_met
+from livenames.words import are_all_names, first_names, is_number, is_number_below
 from livenames.writing import written
-
-# How many parts the tuple of a form's node has, for each kind of node.
-FORM_SIZES = {"use": 2, "join": 3, "bind": 3}
 
 
 def numbered(term):
@@ -21,20 +18,16 @@ def numbered(term):
 
 def is_form(value):
     """Whether any value is the numbered form of a term within the limits."""
-    if not is_form_of_any_size(value):
-        return False
-    try:
-        term_by_own_names(value)
-    except TooMany:
-        return False
-    return True
+    met = nodes_if_form(value)
+    return len(met) > 0 and limit_broken([node for node, _ in met]) is None
 
 
 def from_form(form):
     """The Term that a numbered form tells, written by its told naming."""
-    if not is_form_of_any_size(form):
+    met = nodes_if_form(form)
+    if len(met) == 0:
         raise NoForm(form)
-    term = term_by_own_names(form)
+    term = term_by_own_names(met)
     return written(term, told_naming(term))
 
 
@@ -45,40 +38,42 @@ def numbered_use(around, meant):
     return meant
 
 
-def is_form_of_any_size(value):
-    """Whether any value is a numbered form, within the limits or beyond."""
-    waiting = [(value, 0)]
+def nodes_if_form(value):
+    """For each node of a numbered form, in order, the pair of it and its binders around; none for any other value."""
+    met = []
+    names = []
+    binders = 0
+    waiting = [(value, ())]
     # By a list of what waits and not by recursion, so that a deep value does no harm.
     while waiting:
         node, around = waiting.pop()
-        if not has_form(node, around):
-            return False
-        below = [(tree, around) for tree in trees_below(node)]
-        if node[0] == "bind":
-            below[-1] = (node[-1], around + 1)
-        waiting.extend(below)
-    return True
+        if not isinstance(node, tuple) or not 2 <= len(node) <= 3 or not isinstance(node[0], str):
+            return []
+        if node[0] == "use" and len(node) == 2:
+            if isinstance(node[1], str):
+                names.append(node[1])
+            elif not is_number_below(node[1], len(around)):
+                return []
+        elif node[0] == "join" and len(node) == 3 and isinstance(node[2], tuple):
+            names.append(node[1])
+            # The leftmost one goes on top, as it is met next.
+            waiting.extend([(tree, around) for tree in node[2][::-1]])
+        elif node[0] == "bind" and len(node) == 3 and isinstance(node[1], tuple):
+            waiting.append((node[2], (*around, binders)))
+            waiting.extend([(tree, around) for tree in node[1][::-1]])
+            binders += 1
+        else:
+            return []
+        met.append((node, around))
+    if are_all_names(names):
+        return met
+    return []
 
 
-def has_form(value, around):
-    """Whether any value is made as a form's node is within so many binders, whatever the parts below it are."""
-    if not isinstance(value, tuple) or len(value) == 0:
-        return False
-    kind = value[0]
-    if not isinstance(kind, str) or FORM_SIZES.get(kind) != len(value):
-        return False
-    if kind == "use":
-        return is_name(value[1]) or is_number_below(value[1], around)
-    if kind == "join":
-        return is_name(value[1]) and isinstance(value[2], tuple)
-    return isinstance(value[1], tuple)
-
-
-def term_by_own_names(form):
-    """The Term that a form tells, each of its binders with a name of its own that is not free."""
-    met = nodes_met(form)
+def term_by_own_names(met):
+    """The Term of a form's nodes and their binders around, each binder with a name of its own that is not free."""
     uses = [(node[1], around) for node, around in met if node[0] == "use"]
     binders = [node for node, _ in met if node[0] == "bind"]
-    own = first_names(len(binders), [told for told, _ in uses if is_name(told)])
+    own = first_names(len(binders), [told for told, _ in uses if not is_number(told)])
     used = [own[around[-1 - told]] if is_number(told) else told for told, around in uses]
     return Term(with_names([node for node, _ in met], own, used))

@@ -1,8 +1,7 @@
 """Prices for wished names: a paper of the most weight that can be kept."""
 
-from livenames.clashing import lives_of
 from livenames.keeping import (
-    is_row, kept_weight, need_weights, need_wishes, prices_for, rivals_within, told_kept, wishes_allowed,
+    is_row, kept_weight, need_weights, need_wishes, paid_within, prices_for, told_kept, wishes_allowed,
 )
 from livenames.words import is_number
 from livenames.writing import are_names, is_right
@@ -12,8 +11,7 @@ def told_prices(term, wishes, weights):
     """The list of the prices of the told naming, 0 for binders without one."""
     need_wishes(term, wishes)
     need_weights(term, weights)
-    lives = lives_of(term)
-    return prices_for(lives, wishes_allowed(lives, wishes), weights)
+    return prices_for(term, wishes_allowed(term, wishes), weights)
 
 
 def are_prices(term, wishes, weights, value):
@@ -24,9 +22,8 @@ def are_prices(term, wishes, weights, value):
         return False
     if not all([is_number(price) and price >= 0 for price in value]):
         return False
-    lives = lives_of(term)
-    allowed = wishes_allowed(lives, wishes)
-    return all([does_pay(lives, allowed, weights, value, binder) for binder in range(len(lives))])
+    allowed = wishes_allowed(term, wishes)
+    return all([does_pay(term, allowed, weights, value, binder) for binder in range(len(value))])
 
 
 def kept_paper(term, wishes, weights):
@@ -48,9 +45,8 @@ def accepts_kept(term, wishes, weights, paper):
     return kept_weight(term, wishes, weights, naming) == sum(prices)
 
 
-def does_pay(lives, wishes, weights, prices, binder):
+def does_pay(term, wishes, weights, prices, binder):
     """Whether the prices pay a binder's weight; without a wish that can be kept, whether there is no price."""
     if wishes[binder] is None:
         return prices[binder] == 0
-    paid = sum([prices[inner] for inner in rivals_within(lives, wishes, binder)])
-    return prices[binder] + paid >= weights[binder]
+    return prices[binder] + paid_within(term, wishes, prices, binder) >= weights[binder]

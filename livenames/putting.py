@@ -1,12 +1,12 @@
 """What comes of it if a term is put into another one."""
 
 from livenames.errors import NoLinks, NoUse
-from livenames.making import with_names_by, with_trees
+from livenames.making import remade, with_names
 from livenames.outcomes import Outcome
+from livenames.places import names_by_place, places_meant
 from livenames.terms import need_term
 from livenames.walks import binders_around, free_names, names_of
 from livenames.words import first_names, is_number, is_number_below
-from livenames.writing import written
 
 
 def are_links(term, number, other, value):
@@ -50,9 +50,12 @@ def outcome_of_putting(term, number, other, links):
         raise NoLinks(links)
     old = names_of(term) + names_of(other)
     own = first_names(len(old), free_names(term) + free_names(other))
-    host = written(term, own[:len(term.binders())])
-    guest = written(other, own[len(term.binders()):])
+    host_own = own[:len(names_of(term))]
+    guest_own = own[len(names_of(term)):]
     # By own names, no binder catches what is linked, or left free.
-    linked = {name: own[link] for name, link in links.items() if link is not None}
-    tree = with_trees(host.tree(), {host.uses()[number]: with_names_by(guest.tree(), linked)})
-    return Outcome(tree, dict(zip(own, old)))
+    linked = [name if links[name] is None else own[links[name]] for name in free_names(other)]
+    guest_named = guest_own + linked
+    host_named = names_by_place(term, host_own)
+    leaves = [("use", host_named[place]) for place in places_meant(term)]
+    leaves[number] = with_names(other.listed(), guest_own, [guest_named[place] for place in places_meant(other)])
+    return Outcome(remade(term.listed(), [("bind", name) for name in host_own], leaves), dict(zip(own, old)))

@@ -1,43 +1,59 @@
 """Trees of binders and uses, and the terms that are made of them."""
 
 from livenames.errors import NoNames, NoNode, NoTerm, TooMany
-from livenames.words import is_name, is_number_below
+from livenames.words import are_all_names, is_number_below
 
 MOST_NODES = 400
 MOST_BINDERS = 60
 MOST_ON_A_WAY = 100
 
-# How many parts the tuple of a node has, for each kind of node.
-SIZES = {"use": 2, "join": 3, "bind": 4}
-
 
 def is_tree(value):
     """Whether any value is a tree."""
-    row = [value]
-    # Row by row and not by recursion, so that a deep value does no harm.
-    while row:
-        if not all([has_node_form(part) for part in row]):
-            return False
-        row = row_below(row)
-    return True
+    return len(nodes_if_tree(value)) > 0
 
 
 def in_order(names):
     """The list of some names, each once, in order."""
-    if not isinstance(names, (list, tuple)) or not all([is_name(name) for name in names]):
+    if not isinstance(names, (list, tuple)) or not are_all_names(names):
         raise NoNames(names)
     # Equally long names stay in the order of their letters, since sorting is stable.
     return sorted(sorted(set(names)), key=len)
 
 
-def has_node_form(value):
-    """Whether any value is made as a node is, whatever the parts below it are."""
-    if not isinstance(value, tuple) or len(value) == 0:
-        return False
-    kind = value[0]
-    if not isinstance(kind, str) or SIZES.get(kind) != len(value):
-        return False
-    return is_name(value[1]) and (kind == "use" or isinstance(value[2], tuple))
+def nodes_if_tree(value):
+    """The list of the trees of all nodes of a tree, in the order in which they are met; none for any other value."""
+    nodes = []
+    names = []
+    waiting = [value]
+    # By a list of what waits and not by recursion, so that a deep value does no harm.
+    while waiting:
+        node = waiting.pop()
+        if not isinstance(node, tuple):
+            return []
+        if len(node) == 2:
+            kind, name = node
+            if not isinstance(kind, str) or kind != "use":
+                return []
+        elif len(node) == 3:
+            kind, name, parts = node
+            if not isinstance(kind, str) or kind != "join" or not isinstance(parts, tuple):
+                return []
+            # The leftmost one goes on top, as it is met next.
+            waiting.extend(parts[::-1])
+        elif len(node) == 4:
+            kind, name, ahead, body = node
+            if not isinstance(kind, str) or kind != "bind" or not isinstance(ahead, tuple):
+                return []
+            waiting.append(body)
+            waiting.extend(ahead[::-1])
+        else:
+            return []
+        nodes.append(node)
+        names.append(name)
+    if are_all_names(names):
+        return nodes
+    return []
 
 
 def trees_below(node):
@@ -82,6 +98,33 @@ def depth_of(tree):
     return depth
 
 
+def limit_broken(nodes):
+    """The first of a term's limits that all nodes of a tree, or of a numbered form, break; None if they keep them."""
+    if len(nodes) > MOST_NODES:
+        return MOST_NODES
+    # Few nodes keep the other limits anyway.
+    if len(nodes) > MOST_BINDERS and len(numbers_of("bind", nodes)) > MOST_BINDERS:
+        return MOST_BINDERS
+    if len(nodes) > MOST_ON_A_WAY and depth_of(nodes[0]) > MOST_ON_A_WAY:
+        return MOST_ON_A_WAY
+    return None
+
+
+def find_binders(term):
+    """The list of the numbers of the nodes of a Term that are binders."""
+    return numbers_of("bind", term.listed())
+
+
+def find_uses(term):
+    """The list of the numbers of the nodes of a Term that are uses."""
+    return numbers_of("use", term.listed())
+
+
+def find_depth(term):
+    """The most nodes on a way from the root of a Term down."""
+    return depth_of(term.tree())
+
+
 def tree_of(part):
     """The tree of a Term; any other value as it is."""
     if isinstance(part, Term):
@@ -98,22 +141,21 @@ class Term:
     """A tree within the limits. It is iterated over for the trees of its nodes."""
 
     def __init__(self, tree):
-        if not is_tree(tree):
+        nodes = nodes_if_tree(tree)
+        if len(nodes) == 0:
             raise NoTerm(tree)
-        nodes = nodes_of(tree)
-        if len(nodes) > MOST_NODES:
-            raise TooMany(MOST_NODES)
-        binders = numbers_of("bind", nodes)
-        if len(binders) > MOST_BINDERS:
-            raise TooMany(MOST_BINDERS)
-        depth = depth_of(tree)
-        if depth > MOST_ON_A_WAY:
-            raise TooMany(MOST_ON_A_WAY)
+        broken = limit_broken(nodes)
+        if broken is not None:
+            raise TooMany(broken)
         self._tree = tree
         self._nodes = nodes
-        self._binders = binders
-        self._uses = numbers_of("use", nodes)
-        self._depth = depth
+        self._found = {}
+
+    def once(self, ask):
+        """What a function tells of this term: it is asked once, as a term never changes. Nobody changes its answer."""
+        if ask not in self._found:
+            self._found[ask] = ask(self)
+        return self._found[ask]
 
     def tree(self):
         """The tree of the term."""
@@ -139,15 +181,15 @@ class Term:
 
     def binders(self):
         """The list of the numbers of the nodes that are binders."""
-        return list(self._binders)
+        return list(self.once(find_binders))
 
     def uses(self):
         """The list of the numbers of the nodes that are uses."""
-        return list(self._uses)
+        return list(self.once(find_uses))
 
     def depth(self):
         """The most nodes on a way from the root down."""
-        return self._depth
+        return self.once(find_depth)
 
     def __eq__(self, other):
         return isinstance(other, Term) and self._tree == other._tree

@@ -6,9 +6,21 @@ LETTERS = "abcdefghijklmnopqrstuvwxyz"
 
 def is_name(value):
     """Whether any value is a name: a text of one to eight small letters."""
-    if not isinstance(value, str) or len(value) > LONGEST_NAME:
-        return False
-    return value.isascii() and value.isalpha() and value.islower()
+    return isinstance(value, str) and len(value) <= LONGEST_NAME and are_letters(value)
+
+
+def are_all_names(values):
+    """Whether all values of a list or tuple are names."""
+    for value in values:
+        if not isinstance(value, str) or not 0 < len(value) <= LONGEST_NAME:
+            return False
+    # All of them together are letters just if each is; asked once, this is quicker.
+    return len(values) == 0 or are_letters("".join(values))
+
+
+def are_letters(text):
+    """Whether a text is made of small letters, one at least."""
+    return text.isalpha() and text.islower() and text.isascii()
 
 
 def is_number(value):
@@ -18,7 +30,7 @@ def is_number(value):
 
 def is_number_below(value, most):
     """Whether any value is a number from 0 to one less than the most."""
-    return is_number(value) and 0 <= value < most
+    return isinstance(value, int) and not isinstance(value, bool) and 0 <= value < most
 
 
 def first_names(many, barred):
@@ -31,10 +43,8 @@ def first_names(many, barred):
 
 def name_with(number):
     """The name with a number, from 0 on, of all names in order."""
-    name = ""
-    left = number + 1
-    while left > 0:
-        # There is no letter for nought: z is followed by aa.
-        left, place = divmod(left - 1, len(LETTERS))
-        name = LETTERS[place] + name
-    return name
+    if number < len(LETTERS):
+        return LETTERS[number]
+    # There is no letter for nought: z is followed by aa.
+    before, place = divmod(number - len(LETTERS), len(LETTERS))
+    return name_with(before) + LETTERS[place]

@@ -2,40 +2,36 @@
 
 from livenames.errors import NoNames
 from livenames.making import with_names
+from livenames.places import clashing_places, names_by_place, places_meant
 from livenames.terms import Term, need_term
-from livenames.walks import alike, binders_between, meaning, uses_met
-from livenames.words import is_name, is_number
+from livenames.walks import binders_between, names_of, uses_met
+from livenames.words import are_all_names
 
 
 def are_names(term, value):
     """Whether any value is a list or tuple of as many names as a term has binders."""
     need_term(term)
-    if not isinstance(value, (list, tuple)) or len(value) != len(term.binders()):
-        return False
-    return all([is_name(name) for name in value])
+    return isinstance(value, (list, tuple)) and len(value) == len(names_of(term)) and are_all_names(value)
 
 
 def written(term, names):
     """The Term with other names at its binders, and at the uses that mean them."""
     need_names(term, names)
-    used = [name_by(names, meant) for meant in meaning(term)]
-    return Term(with_names(term.listed(), names, used))
+    named = names_by_place(term, names)
+    return Term(with_names(term.listed(), names, [named[place] for place in places_meant(term)]))
 
 
 def is_right(term, names):
     """Whether the term that is written by a naming is alike to the term."""
-    return alike(term, written(term, names))
+    need_names(term, names)
+    return hurts_nothing(term, names)
 
 
 def catches(term, names):
     """The list of the triples (use, binder, meant) of uses that a naming has a binder catch."""
     need_names(term, names)
-    return [
-        (use, binder, meant)
-        for use, (around, meant) in enumerate(uses_met(term))
-        for binder in binders_between(around, meant)
-        if names[binder] == name_by(names, meant)
-    ]
+    named = names_by_place(term, names)
+    return [catch for place, binder, catch in term.once(find_between) if named[place] == named[binder]]
 
 
 def need_names(term, value):
@@ -50,8 +46,20 @@ def need_right(term, value):
         raise NoNames(value)
 
 
-def name_by(names, meant):
-    """The name that a binder has by a naming; a free name stays."""
-    if is_number(meant):
-        return names[meant]
-    return meant
+def hurts_nothing(term, names):
+    """Whether a naming is right: that is so just if it hurts no clash."""
+    named = names_by_place(term, names)
+    for place, binder, _ in clashing_places(term):
+        if named[place] == named[binder]:
+            return False
+    return True
+
+
+def find_between(term):
+    """The list of the triples (place, binder, catch) of all catches that any naming of a Term may have, in order."""
+    places = places_meant(term)
+    found = []
+    for use, (around, meant) in enumerate(uses_met(term)):
+        for binder in binders_between(around, meant):
+            found.append((places[use], binder, (use, binder, meant)))
+    return found
