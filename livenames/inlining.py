@@ -1,7 +1,7 @@
 """What comes of it if a binder's ahead term is put in the place of its uses."""
 
 from livenames.errors import NoBinder
-from livenames.making import with_leaves, with_names_by
+from livenames.making import with_leaves
 from livenames.outcomes import Outcome
 from livenames.terms import nodes_of
 from livenames.walks import free_names, names_of, need_binder, uses_of
@@ -34,40 +34,17 @@ def outcome_of_inlining(term, binder):
     """The Outcome of inlining a binder."""
     if not can_inline(term, binder):
         raise NoBinder(binder)
-    index = term.binders()[binder]
-    many = len(uses_of(term, binder))
-    binders = len(names_of(term))
-    old = list(names_of(term)) + binder_names(term[index][2][0]) * many
+    old = names_of(term)
     own = first_names(len(old), free_names(term))
-    host = written(term, own[:binders])
-    copies = copies_of(host[index][2][0], many, own[binders:])
-    return Outcome(inlined_tree(host, index, copies), dict(zip(own, old)))
+    tree = inlined_tree(written(term, own), term.binders()[binder])
+    return Outcome(tree, dict(zip(own, old)))
 
 
-def inlined_tree(host, index, copies):
-    """The tree of a host by own names, with copies for the uses of the binder at a node, and its body for this."""
+def inlined_tree(host, index):
+    """The tree of a host by own names, in which the binder at a node is inlined."""
     own = host[index][1]
     ahead = host[index][2]
     body = index + 1 + sum([len(nodes_of(tree)) for tree in ahead])
     nodes = host.listed()[:index] + host.listed()[body:]
-    copies_left = copies[::-1]
-    leaves = []
-    for node in nodes:
-        if node == ("use", own):
-            leaves.append(copies_left.pop())
-        elif node[0] == "use":
-            leaves.append(node)
-    return with_leaves(nodes, leaves)
-
-
-def copies_of(tree, many, names):
-    """The list of so many copies of a tree, each with others of these names at its binders."""
-    inner = binder_names(tree)
-    size = len(inner)
-    tables = [dict(zip(inner, names[place * size:(place + 1) * size])) for place in range(many)]
-    return [with_names_by(tree, table) for table in tables]
-
-
-def binder_names(tree):
-    """The list of the names of all binders of a tree, in order."""
-    return [node[1] for node in nodes_of(tree) if node[0] == "bind"]
+    # No copy is within another one, so that the binders of all of them may have the same own names.
+    return with_leaves(nodes, [ahead[0] if node == ("use", own) else node for node in nodes if node[0] == "use"])

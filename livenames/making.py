@@ -1,7 +1,5 @@
 """Trees made of other trees: of a term's, or of a numbered form's, whose binders have no name."""
 
-from livenames.terms import nodes_of
-
 
 def remade(nodes, heads, leaves):
     """The tree of some nodes, its binders begun by other heads, its uses other trees, for each one in order."""
@@ -34,14 +32,6 @@ def with_leaves(nodes, leaves):
 def with_names(nodes, names, used):
     """The tree of some nodes with other names at its binders and at its uses, for each one in order."""
     return remade(nodes, [("bind", name) for name in names], [("use", name) for name in used])
-
-
-def with_names_by(tree, table):
-    """A tree with other names at its binders and at its uses: those that a dict has for the old ones."""
-    nodes = nodes_of(tree)
-    names = [table.get(node[1], node[1]) for node in nodes if node[0] == "bind"]
-    used = [table.get(node[1], node[1]) for node in nodes if node[0] == "use"]
-    return with_names(nodes, names, used)
 
 
 def tree_met(nodes):

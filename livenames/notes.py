@@ -68,7 +68,7 @@ class Reader:
         """The tree that the whole text tells."""
         # By a list of begun nodes and not by recursion, so that a deep text does no harm.
         tree = self._begin()
-        while tree is None or len(self._begun) > 0:
+        while len(self._begun) > 0:
             tree = self._begin() if tree is None else self._go_on(tree)
         if self._read < len(self._text):
             raise NoNote(self._read + 1)

@@ -47,7 +47,7 @@ def nodes_if_form(value):
     # By a list of what waits and not by recursion, so that a deep value does no harm.
     while waiting:
         node, around = waiting.pop()
-        if not isinstance(node, tuple) or not 2 <= len(node) <= 3 or not isinstance(node[0], str):
+        if not isinstance(node, tuple) or len(node) == 0 or not isinstance(node[0], str):
             return []
         if node[0] == "use" and len(node) == 2:
             if isinstance(node[1], str):

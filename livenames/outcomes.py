@@ -7,7 +7,7 @@ from livenames.writing import catches, written
 
 
 class Outcome:
-    """What comes of other terms: a term by own names, unlike and not free, and the old names of its binders."""
+    """What comes of other terms: a term by own names, by which each use means what it should, and the old names."""
 
     def __init__(self, tree, olds):
         """Made of the tree by own names, and a dict from these to the old ones."""

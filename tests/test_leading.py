@@ -1,6 +1,7 @@
 """Tests of livenames.leading."""
 
 import unittest
+from unittest import mock
 
 from livenames.errors import NoNames, NoPool, NoTerm, TooMany
 from livenames.leading import is_enough, is_way, lead
@@ -120,7 +121,7 @@ class TestIsWay(Checks):
             wrong += [[bad], [bad, *good[1:]], [*good, bad]]
         for bad in [number for number in NO_NUMBERS if number is not None] + [None, -1, -2, 2, 10 ** 50]:
             wrong += [[(bad, "c"), *good[1:]], [*good[:2], (bad, "b")]]
-        for bad in NO_NAMES + NO_TEXTS + ["d", "z"]:
+        for bad in NO_NAMES + NO_TEXTS + ["d", "z", mock.ANY]:
             wrong += [[(0, bad), *good[1:]], [*good[:2], (0, bad)]]
         for value in wrong:
             self.assertIs(is_way(PAIR, POOL, ("a", "b"), ("b", "a"), value), False, value)

@@ -38,7 +38,8 @@ NO_ROOTS = [
     ("join", "f", [X]), ("join", "f", []), ("join", "f", X), ("join", "f", None), ("join", "f", ""), ("join", 0, ()),
     ("join", "f", (0,)), ("join", "f", ("x",)), ("join", "f", {}), ["use", "x"], ["bind", (), X], ["join", "f", ()],
     ("uses", "x"), ("Use", "x"), (None, "x"), (b"use", "x"), (["use"], "x"), ({}, "x"), (mock.ANY, "x"), (X, "x"),
-    ("x", "use"), ("use", mock.ANY), ("join", mock.ANY, ()),
+    ("x", "use"), ("use", mock.ANY), ("join", mock.ANY, ()), ("binds", (), X), ("use", (), X), ("join", (), X), ("", (), X),
+    ("joins", "f", ()), ("bind", "f", ()), ("use", "f", ()), ("bind", X), ("join", X), (mock.ANY, (), X), (mock.ANY, "f", ()),
 ]
 # No use within two binders has these.
 NO_USES = NO_NAMES + [bad for bad in NO_TEXTS if repr(bad) not in ["0", "1"]]

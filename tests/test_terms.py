@@ -16,6 +16,7 @@ NO_ROOTS = NO_TEXTS[:-1] + [
     ("use", "x", ()), ("use", "x", "y"), ("join", "f", (), ()), ("bind", "x", (), X, X), ("bind", "x", (), X, ()),
     ("uses", "x"), ("Use", "x"), ("", "x"), ("leaf", "x"), (None, "x"), (0, "x"), (True, "x"), (b"use", "x"),
     (("use",), "x"), (["use"], "x"), ({}, "x"), ({"use"}, "x"), (X, "x"), (mock.ANY, "x"),
+    (mock.ANY, "f", ()), (mock.ANY, "x", (), X), ("joins", "f", ()), ("binds", "x", (), X), (["join"], "f", ()),
     ("x", "use"), ("bind", "f", (X,)), ("use", "x", (), X), ("join", "x", (), X),
     ["use", "x"], ["join", "f", ()], ["bind", "x", (), X], {"use": "x"}, {0: "use", 1: "x"},
     ("join", "f", []), ("join", "f", [X]), ("join", "f", {}), ("join", "f", None), ("join", "f", "x"),
